@@ -1,0 +1,1 @@
+"""Readings of an instrument, as they come: how many, their mean and their spread."""
