@@ -1,1 +1,1 @@
-"""Readings of an instrument, as they come: how many, their mean and their spread."""
+"""Readings of an instrument, as they come: how many, their mean and their spread, the least and the greatest."""

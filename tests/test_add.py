@@ -3,17 +3,13 @@
 import random
 import unittest
 
-from helper import (ADD, BEGIN, BOUND, COUNT, LEAST_ABOVE_ZERO, MEAN, NEGATIVE_ZERO, POSITIVE_ZERO, SIGN, VARIANCE,
-                    add_all, bits, double, state_behind, state_by_floats, told)
+from helper import (ADD, BEGIN, BOUND, COUNT, INFINITE, LEAST_ABOVE_ZERO, MEAN, NEGATIVE_ZERO, NO_NUMBERS,
+                    POSITIVE_ZERO, SIGN, VARIANCE, add_all, bits, double, everything_behind, state_behind,
+                    state_by_floats, told)
 from readingstold.instrument import Instrument
 
 BOUND_BITS = 0x58F0000000000000
 
-NO_NUMBERS = [
-    0x7FF0000000000001, 0x7FF7FFFFFFFFFFFF, 0x7FF8000000000000, 0x7FF8000000000001, 0x7FFFFFFFFFFFFFFF,
-    0x7FF0000100000000, 0x7FFABCDEF0123456,
-]
-INFINITE = 0x7FF0000000000000
 TOO_LARGE = [BOUND_BITS + 1, BOUND_BITS + 2, bits(2.0 ** 401), bits(1e200), 0x7FEFFFFFFFFFFFFF]
 
 
@@ -139,9 +135,9 @@ class Refused(unittest.TestCase):
         for before in ([], add_all([1.5]), add_all([0.1, -7.0, 3.25])):
             calls = before + [ADD, reading]
             self.assertEqual(told(calls)[-1], -1, hex(reading))
-            self.assertEqual(state_behind(calls), state_behind(before), hex(reading))
+            self.assertEqual(everything_behind(calls), everything_behind(before), hex(reading))
             later = add_all([2.5, -0.3])
-            self.assertEqual(state_behind(calls + later), state_behind(before + later), hex(reading))
+            self.assertEqual(everything_behind(calls + later), everything_behind(before + later), hex(reading))
 
     def test_what_is_no_number(self):
         for reading in NO_NUMBERS:
@@ -191,10 +187,10 @@ class TooMany(unittest.TestCase):
 
     def test_one_more_is_refused(self):
         instrument = self.instrument_behind(4294967295)
-        before = (instrument.count, instrument.mean, instrument.squares)
-        for reading in (bits(7.0), POSITIVE_ZERO, NEGATIVE_ZERO, INFINITE):
+        before = dict(vars(instrument))
+        for reading in (bits(7.0), bits(-7.0), POSITIVE_ZERO, NEGATIVE_ZERO, INFINITE):
             self.assertEqual(instrument.add(reading), -1)
-            self.assertEqual((instrument.count, instrument.mean, instrument.squares), before)
+            self.assertEqual(vars(instrument), before)
 
     def test_begin_makes_room(self):
         instrument = self.instrument_behind(4294967295)

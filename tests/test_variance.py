@@ -1,4 +1,4 @@
-"""Promise 5, as far as it has landed: variance."""
+"""Promise 5: variance."""
 
 import random
 import unittest
